@@ -1,0 +1,1 @@
+"""Roadbikes: a few bicycles for many people on one road."""
