@@ -1,4 +1,6 @@
-"""What every check of numbers in the package has in common."""
+"""What the checks of numbers and starts in the package have in common."""
+
+from roadbikes.bounds import MAX_PEOPLE, MAX_START
 
 
 def is_number_from(value, least, most):
@@ -7,3 +9,13 @@ def is_number_from(value, least, most):
     if isinstance(value, bool) or not isinstance(value, int):
         return False
     return least <= value <= most
+
+
+def is_starts(value):
+    """Return whether any value is starts."""
+    if not isinstance(value, tuple) or not 1 <= len(value) <= MAX_PEOPLE:
+        return False
+    for start in value:
+        if not is_number_from(start, 0, MAX_START):
+            return False
+    return True

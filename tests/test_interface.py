@@ -11,6 +11,21 @@ PARAMETERS = {
         "is_plan": "(road, people, value)", "ticks_of": "(road, starts, plan)",
         "finish_of": "(road, starts, plan)", "waits_of": "(road, starts, plan)",
     },
+    "rule": {
+        "rule_plan": "(road, starts)", "least_finish": "(road, starts)", "needs_of": "(road, starts, end)",
+        "find_certificate": "(road, starts, end)", "certificate_holds": "(road, starts, end, value)",
+    },
+    "counting": {
+        "count_plans": "(road, people)", "count_good": "(road, starts, end)", "each_plan": "(road, people)",
+    },
+    "texts": {"trip_text": "(road, starts)", "parse_trip": "(value)"},
+}
+CLASSES = {
+    "values": {
+        "Party": ("(starts)", [
+            "starts", "__getitem__", "__add__", "__rshift__", "__contains__", "__iter__", "__len__", "__str__", "__eq__"]),
+        "Race": ("(road)", ["__call__", "best"]),
+    },
 }
 
 
@@ -24,6 +39,17 @@ class Interface(unittest.TestCase):
                     self.assertTrue(inspect.isfunction(found))
                     self.assertEqual(found.__module__, module.__name__)
                     self.assertEqual(str(inspect.signature(found)), parameters)
+
+    def test_classes_stand_in_their_files_and_have_their_own_methods(self):
+        for name, classes in CLASSES.items():
+            module = importlib.import_module(f"roadbikes.{name}")
+            for kind, (parameters, members) in classes.items():
+                with self.subTest(kind):
+                    found = getattr(module, kind)
+                    self.assertTrue(inspect.isclass(found))
+                    self.assertEqual(found.__module__, module.__name__)
+                    self.assertEqual(str(inspect.signature(found)), parameters)
+                    self.assertEqual([member for member in members if member not in vars(found)], [])
 
 
 if __name__ == "__main__":

@@ -17,6 +17,10 @@ BARRED_WORDS = re.compile(
     r"|namedtuple|NamedTuple|TypedDict|TYPE_CHECKING|abstractmethod)\b|dataclass|overload|contextmanager")
 BARRED_NODES = (
     ast.Import, ast.Global, ast.AsyncFunctionDef, ast.AsyncFor, ast.AsyncWith, ast.Await, ast.Div)
+OPERATORS = {
+    "__getitem__": "(self, at)", "__contains__": "(self, x)", "__add__": "(self, other)", "__rshift__": "(self, other)"}
+OTHER_SPECIAL_METHODS = {"__init__", "__eq__", "__str__", "__len__", "__call__", "__iter__"}
+TAKE_LISTS = {"sum", "min", "max", "sorted", "any", "all"}
 
 
 def bound_names(node):
@@ -30,8 +34,23 @@ def bound_names(node):
     return []
 
 
+def is_property(method):
+    return [ast.unparse(decorator) for decorator in method.decorator_list] == ["property"]
+
+
+def assigned_attributes(node):
+    return [
+        (name.value.id, name.attr) for name in ast.walk(node)
+        if isinstance(name, ast.Attribute) and isinstance(name.ctx, ast.Store) and isinstance(name.value, ast.Name)]
+
+
 FILES = {path.name: path.read_text(encoding="utf-8") for path in sorted(PACKAGE.rglob("*.py"))}
 NODES = [(name, node) for name, text in FILES.items() for node in ast.walk(ast.parse(text))]
+CLASSES = [node for _, node in NODES if isinstance(node, ast.ClassDef)]
+METHODS = [(kind.name, method) for kind in CLASSES for method in kind.body if isinstance(method, ast.FunctionDef)]
+GENERATORS = {
+    node.name for _, node in NODES
+    if isinstance(node, ast.FunctionDef) and any(isinstance(part, ast.Yield) for part in ast.walk(node))}
 
 
 class Language(unittest.TestCase):
@@ -79,6 +98,42 @@ class Language(unittest.TestCase):
             for bound in bound_names(node):
                 if not (bound.startswith("__") and bound.endswith("__")):
                     self.assertFalse(bound.startswith("_") or hasattr(builtins, bound), (name, bound))
+
+    def test_special_methods(self):
+        for kind, method in METHODS:
+            if method.name in OPERATORS:
+                self.assertEqual(f"({ast.unparse(method.args)})", OPERATORS[method.name], kind)
+            elif method.name.startswith("__"):
+                self.assertIn(method.name, OTHER_SPECIAL_METHODS, kind)
+
+    def test_items_without_a_loop(self):
+        loops = {kind for kind, method in METHODS if method.name == "__iter__"}
+        for kind, method in METHODS:
+            if method.name == "__getitem__":
+                self.assertIn(kind, loops)
+
+    def test_operators_and_properties_assign_no_attribute(self):
+        for kind, method in METHODS:
+            if method.name in OPERATORS or method.name in ("__eq__", "__str__", "__len__") or is_property(method):
+                self.assertEqual(assigned_attributes(method), [], (kind, method.name))
+
+    def test_no_name_is_a_method_and_an_attribute(self):
+        methods = {method.name for _, method in METHODS}
+        for kind, method in METHODS:
+            for _, attribute in assigned_attributes(method):
+                self.assertNotIn(attribute, methods, kind)
+
+    def test_sums_and_the_like_take_lists(self):
+        for name, node in NODES:
+            if isinstance(node, ast.Call) and ast.unparse(node.func) in TAKE_LISTS:
+                for argument in node.args:
+                    self.assertNotIsInstance(argument, ast.GeneratorExp, name)
+                    called = ast.unparse(argument.func) if isinstance(argument, ast.Call) else ""
+                    self.assertNotIn(called, GENERATORS, name)
+
+    def test_no_sort_in_place(self):
+        for name, node in NODES:
+            self.assertFalse(isinstance(node, ast.Attribute) and node.attr == "sort", name)
 
 
 if __name__ == "__main__":
