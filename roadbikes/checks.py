@@ -1,6 +1,6 @@
-"""What the checks of numbers and starts in the package have in common."""
+"""What the checks of numbers, ends and starts in the package have in common."""
 
-from roadbikes.bounds import MAX_PEOPLE, MAX_START
+from roadbikes.bounds import LIMIT, MAX_PEOPLE, MAX_START
 
 
 def is_number_from(value, least, most):
@@ -9,6 +9,11 @@ def is_number_from(value, least, most):
     if isinstance(value, bool) or not isinstance(value, int):
         return False
     return least <= value <= most
+
+
+def is_end(value):
+    """Return whether any value is a tick by which somebody may have to be at the end."""
+    return is_number_from(value, 0, LIMIT)
 
 
 def is_starts(value):

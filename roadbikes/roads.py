@@ -36,6 +36,12 @@ def room_of(road, many):
     return sum([min(count, many) for count in counts_of(road)])
 
 
+def with_further(road, station, many):
+    """Return the road with so many further bicycles at a station, or fewer if many is less than 0."""
+    walk, ride, bikes = road
+    return (walk, ride, bikes[:station] + (bikes[station] + many,) + bikes[station + 1:])
+
+
 def joined(road, *others):
     """Return the road with the stages of all these roads, one behind the other."""
     for index, other in enumerate(others):

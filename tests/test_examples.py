@@ -58,6 +58,22 @@ EXAMPLES = """
 >>> [certificate_holds(A, (0, 0), 24, ('plan', ((0,), (1,), ()))), certificate_holds(A, (0, 0), 23, ('people', (0,))), certificate_holds(A, (0, 0), 23, ('people', (0, 1)))]
 [True, False, True]
 
+>>> from roadbikes.more import fewest_bikes
+>>> A = (10, 4, (1, 0, 0))
+>>> [fewest_bikes(A, (0, 0), 23, 0), fewest_bikes(A, (0, 0), 23, 2), fewest_bikes(A, (0, 0), 24, 1), fewest_bikes(A, (0, 0), 11, 0)]
+[1, 1, 0, None]
+
+>>> from roadbikes.more import latest_start
+>>> A = (10, 4, (1, 0, 0))
+>>> [latest_start(A, (0, 0), 30), latest_start(A, (0, 0), 24), latest_start(A, (0, 0), 23)]
+[18, 0, None]
+
+>>> from roadbikes.more import can_walk
+>>> A = (10, 4, (1, 0, 0))
+>>> B = (10, 4, (1, 0))
+>>> [can_walk(A, (0, 0), 24, 0), can_walk(B, (0, 9), 20, 0), can_walk(B, (0, 9), 20, 1)]
+[False, True, False]
+
 >>> from roadbikes.counting import count_good, count_plans
 >>> A = (10, 4, (1, 0, 0))
 >>> [count_plans(A, 2), count_good(A, (0, 0), 24), count_good(A, (0, 0), 23)]
@@ -89,6 +105,75 @@ EXAMPLES = """
 >>> [race.best, race(Party((0, 9))), race(Party((0, 0, 9))), race(Party((5,))), race.best]
 [None, 20, 20, 13, 13]
 
+>>> from roadbikes.trips import Trip
+>>> B = (10, 4, (1, 0))
+>>> trip = Trip(B, (0, 9))
+>>> [trip.road == B, trip.starts, trip.finish, len(trip)]
+[True, (0, 9), 20, 0]
+
+>>> from roadbikes.trips import Trip
+>>> [Trip.MOST_EDITS, Trip((3, 1, (0,)), (5,)).finish]
+[60, 8]
+
+>>> from roadbikes.trips import Trip
+>>> B = (10, 4, (1, 0))
+>>> trip = Trip(B, (0, 9))
+>>> [trip.come(0), trip.finish, trip.place(0, 1), trip.finish, trip.leave(1), trip.finish]
+[1, 20, 2, 17, 3, 8]
+
+>>> from roadbikes.trips import Trip
+>>> B = (10, 4, (1, 0))
+>>> trip = Trip(B, (0, 9))
+>>> [trip.take(0, 1), trip.finish, trip.undo(), trip.finish]
+[1, 29, 0, 20]
+
+>>> from roadbikes.trips import Trip
+>>> B = (10, 4, (1, 0))
+>>> trip = Trip(B, (0, 9))
+>>> trip.attempt([('come', 4), ('take', 1, 1)])
+raises Rejected(1)
+
+>>> from roadbikes.trips import Trip
+>>> trip = Trip((3, 1, (0,)), (5,))
+>>> [trip.place(0, 2), trip.state(), trip.state(version=0)]
+[1, ((3, 1, (2,)), (5,)), ((3, 1, (0,)), (5,))]
+
+>>> from roadbikes.trips import Trip
+>>> B = (10, 4, (1, 0))
+>>> Trip(B, (0, 9)).certificate(19)
+('people', (0, 1))
+
+>>> from roadbikes.trips import Trip
+>>> B = (10, 4, (1, 0))
+>>> list(Trip(B, (0, 9)).walk())
+[(0, (1,), (10, 13)), (1, (1,), (20, 17))]
+
+>>> from roadbikes.trips import Trip
+>>> trip = Trip((3, 1, (0,)), (5,))
+>>> [trip.place(0, 2), trip.edits()]
+[1, (('place', 0, 2),)]
+
+>>> from roadbikes.trips import Trip
+>>> trip = Trip.read('10/4 1,0 from 0,9')
+>>> [trip.road, trip.starts]
+[(10, 4, (1, 0)), (0, 9)]
+
+>>> from roadbikes.trips import Trip
+>>> B = (10, 4, (1, 0))
+>>> [str(Trip(B, (0, 9))), Trip(B, (0, 9)) == Trip(B, (9, 0))]
+['2 stages, 1 bicycles, 2 people, finish 20, 0 edits', True]
+
+>>> from roadbikes.promises import Promise
+>>> promise = Promise(25)
+>>> [promise.latest, promise.left(20)]
+[25, 5]
+
+>>> from roadbikes.trips import PromisedTrip
+>>> B = (10, 4, (1, 0))
+>>> trip = PromisedTrip(B, (0, 9), 20)
+>>> [trip.left(trip.finish), trip.come(0), trip.come(1)]
+raises TooLate(21)
+
 >>> from roadbikes.texts import trip_text
 >>> B = (10, 4, (1, 0))
 >>> trip_text(B, (0, 9))
@@ -97,6 +182,18 @@ EXAMPLES = """
 >>> from roadbikes.texts import parse_trip
 >>> parse_trip('10/4 1,13 from 0,9')
 raises BadText(1)
+
+>>> from roadbikes.trips import Trip
+>>> from roadbikes.shells import Shell
+>>> Shell(Trip((3, 1, (0,)), (5,))).execute('trip')
+'3/1 0 from 5'
+
+>>> from roadbikes.trips import Trip
+>>> from roadbikes.shells import Shell
+>>> B = (10, 4, (1, 0))
+>>> shell = Shell(Trip(B, (0, 9)))
+>>> [shell.execute('finish'), shell.execute('riders'), shell.execute('by 19'), shell.execute('by 20'), shell.execute('take 1 1'), shell.execute('come 4'), shell.execute('leave')]
+['20', '1 1', 'people', 'plan', 'error TooFew', 'ok 1', 'unknown command']
 """
 
 
@@ -115,7 +212,7 @@ def told(lines):
 class Examples(unittest.TestCase):
     def test_each_session(self):
         sessions = EXAMPLES.strip().split("\n\n")
-        self.assertEqual(len(sessions), 18)
+        self.assertEqual(len(sessions), 36)
         for session in sessions:
             *lines, expected = session.split("\n")
             with self.subTest(session):

@@ -18,6 +18,10 @@ PARAMETERS = {
     "counting": {
         "count_plans": "(road, people)", "count_good": "(road, starts, end)", "each_plan": "(road, people)",
     },
+    "more": {
+        "fewest_bikes": "(road, starts, end, station)", "latest_start": "(road, starts, end)",
+        "can_walk": "(road, starts, end, person)",
+    },
     "texts": {"trip_text": "(road, starts)", "parse_trip": "(value)"},
 }
 CLASSES = {
@@ -26,6 +30,31 @@ CLASSES = {
             "starts", "__getitem__", "__add__", "__rshift__", "__contains__", "__iter__", "__len__", "__str__", "__eq__"]),
         "Race": ("(road)", ["__call__", "best"]),
     },
+    "promises": {"Promise": ("(latest)", ["latest", "left"])},
+    "trips": {
+        "Trip": ("(road, starts)", [
+            "road", "starts", "finish", "MOST_EDITS", "come", "leave", "place", "take", "undo", "attempt", "state",
+            "certificate", "walk", "edits", "read", "__len__", "__str__", "__eq__"]),
+        # These behave otherwise than those of a trip.
+        "PromisedTrip": ("(road, starts, latest)", ["come", "leave", "place", "take", "__eq__"]),
+    },
+    "shells": {"Shell": ("(trip)", ["execute"])},
+}
+METHODS = {
+    "promises": {"Promise": {"left": "(self, tick)"}},
+    "trips": {
+        "Trip": {
+            "come": "(self, start)", "leave": "(self, person)", "place": "(self, station, count)",
+            "take": "(self, station, count)", "undo": "(self)", "attempt": "(self, edits, *, watch=None)",
+            "state": "(self, *, version=None)", "certificate": "(self, end, *, version=None)",
+            "walk": "(self, *, version=None)", "edits": "(self)", "read": "(text)",
+        },
+        "PromisedTrip": {
+            "come": "(self, start)", "leave": "(self, person)", "place": "(self, station, count)",
+            "take": "(self, station, count)", "left": "(self, tick)", "attempt": "(self, edits, *, watch=None)",
+        },
+    },
+    "shells": {"Shell": {"execute": "(self, line)"}},
 }
 
 
@@ -50,6 +79,14 @@ class Interface(unittest.TestCase):
                     self.assertEqual(found.__module__, module.__name__)
                     self.assertEqual(str(inspect.signature(found)), parameters)
                     self.assertEqual([member for member in members if member not in vars(found)], [])
+
+    def test_parameters_of_methods(self):
+        for name, classes in METHODS.items():
+            module = importlib.import_module(f"roadbikes.{name}")
+            for kind, methods in classes.items():
+                for method, parameters in methods.items():
+                    with self.subTest(f"{kind}.{method}"):
+                        self.assertEqual(str(inspect.signature(getattr(getattr(module, kind), method))), parameters)
 
 
 if __name__ == "__main__":
