@@ -2,17 +2,21 @@
 
 from roadbikes.bounds import SMALL_PLANS
 from roadbikes.errors import TooLarge
-from roadbikes.plans import finish_of
 
 
 def count_plans(road, people):
     """Return the number of plans for the road and so many people."""
-    ways = subset_counts(people)
-    # totals[many] is the number of plans of the stages so far with that many riders on the last one.
-    totals = [1] + [0] * people
-    for standing in road[2]:
-        totals = [ways[many] * sum(totals[max(0, many - standing):]) for many in range(people + 1)]
-    return sum(totals)
+    return ways_on(road, people)[0][0]
+
+
+def ways_on(road, people):
+    """Return for each station a list: in how many ways plans go on there, by how many come with a bicycle."""
+    groups = subset_counts(people)
+    rows = [[1] * (people + 1)]
+    for standing in road[2][::-1]:
+        ways = [groups[many] * rows[-1][many] for many in range(people + 1)]
+        rows.append([sum(ways[:brought + standing + 1]) for brought in range(people + 1)])
+    return rows[::-1]
 
 
 def subset_counts(people):
@@ -25,14 +29,72 @@ def subset_counts(people):
 
 def count_good(road, starts, end):
     """Return the number of plans whose finish is at most the end."""
-    people = len(starts)
-    if count_plans(road, people) > SMALL_PLANS:
+    ways = ways_on(road, len(starts))
+    if ways[0][0] > SMALL_PLANS:
         raise TooLarge(SMALL_PLANS)
+    groups = groups_up_to(len(starts), min(len(starts), sum(road[2])))
+    # How a plan can go on depends only on the ticks at which people and bicycles come to a station, not on who
+    # comes when. So the keys are these ticks, sorted, and the values count the beginnings of plans with them.
+    arrivals = {(tuple(sorted(starts)), ()): 1}
     good = 0
-    for plan in each_plan(road, people):
-        if finish_of(road, starts, plan) <= end:
-            good += 1
+    for station, row in enumerate(ways):
+        undecided = {}
+        for (ticks, brought), many in arrivals.items():
+            if is_surely_good(road, station, ticks, end):
+                good += many * row[len(brought)]
+            elif is_maybe_good(road, station, ticks, end):
+                undecided[(ticks, brought)] = many
+        arrivals = next_arrivals(road, station, undecided, groups, end)
     return good
+
+
+def groups_up_to(people, most):
+    """Return for each number from 0 to most a list of all ascending tuples of at most that many people."""
+    newest = [()]
+    rows = [newest]
+    for size in range(most):
+        newest = [group + (person,) for group in newest for person in range(group[-1] + 1 if group else 0, people)]
+        rows.append(rows[-1] + newest)
+    return rows
+
+
+def is_surely_good(road, station, ticks, end):
+    """Return whether all keep the end who come to a station at these sorted ticks, whoever rides from there on."""
+    # Nobody waits for a bicycle longer than until the last person comes, so they are as late as the last on foot.
+    return ticks[-1] + road[0] * (len(road[2]) - station) <= end
+
+
+def is_maybe_good(road, station, ticks, end):
+    """Return whether the last one who comes to a station at these sorted ticks keeps the end by riding on."""
+    return ticks[-1] + road[1] * (len(road[2]) - station) <= end
+
+
+def next_arrivals(road, station, arrivals, groups, end):
+    """Return the arrivals at the next station, with the number of beginnings of plans that lead to each."""
+    walk, ride, bikes = road
+    # Who comes later than this must ride now, as they come too late even if they ride on all other stages.
+    latest = end - walk - ride * (len(bikes) - station - 1)
+    following = {}
+    for (ticks, brought), many in arrivals.items():
+        present = (0,) * bikes[station] + brought
+        needed = tuple([person for person, tick in enumerate(ticks) if tick > latest])
+        for riders in groups[min(len(ticks), len(present))]:
+            # Those who come last are the last ones of the people, whose ticks are sorted.
+            if riders[len(riders) - len(needed):] == needed:
+                arrival = next_arrival(road, ticks, present, riders)
+                following[arrival] = following.get(arrival, 0) + many
+    return following
+
+
+def next_arrival(road, ticks, bikes, riders):
+    """Return the sorted ticks at which people and bicycles come behind a stage.
+
+    ticks and bikes are the sorted ticks at which they come before it, and riders are indexes of ticks.
+    """
+    walk, ride = road[:2]
+    riding = [max(ticks[person], bike) + ride for person, bike in zip(riders, bikes)]
+    walking = [tick + walk for person, tick in enumerate(ticks) if person not in riders]
+    return (tuple(sorted(riding + walking)), tuple(riding))
 
 
 def each_plan(road, people):

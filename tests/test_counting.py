@@ -1,13 +1,14 @@
 import inspect
+import random
 import unittest
-from itertools import islice, product
+from itertools import islice, permutations, product
 
 from samples import A, B, C, all_plans, step_by_step
 
 from roadbikes.bounds import LIMIT, MAX_START, SMALL_PLANS
 from roadbikes.counting import count_good, count_plans, each_plan
 from roadbikes.errors import TooLarge
-from roadbikes.plans import is_plan
+from roadbikes.plans import finish_of, is_plan
 
 LONG = (10, 4, (12,) * 12)
 
@@ -17,6 +18,18 @@ def small_cases():
         for bikes in product((0, 1, 2), repeat=stages):
             for people in range(1, most_people + 1):
                 yield (10, 4, bikes), people
+
+
+def some_trips(many):
+    """Trips with 100 to SMALL_PLANS plans, with equal and with different starts."""
+    chance = random.Random(5)
+    while many > 0:
+        walk = chance.choice((10, 997, chance.randint(2, 1000)))
+        bikes = tuple(chance.choice((0, 0, 0, 1, 1, 2, 3, 12)) for _ in range(chance.randint(1, 12)))
+        road, people = (walk, chance.randint(1, walk - 1), bikes), chance.randint(1, 10)
+        if 100 < count_plans(road, people) <= SMALL_PLANS:
+            yield road, tuple(chance.choice((0, chance.randint(0, walk * len(bikes)))) for _ in range(people))
+            many -= 1
 
 
 class CountPlans(unittest.TestCase):
@@ -69,6 +82,23 @@ class CountGood(unittest.TestCase):
             self.assertEqual(count_plans(road, people), many)
             self.assertEqual(count_good(road, starts, LIMIT), many)
             self.assertEqual(count_good(road, starts, 0), 0)
+
+    def test_roads_that_were_slow(self):
+        self.assertEqual(count_good((10, 4, (3, 0, 0, 0, 0)), (0, 0, 0), 10 ** 7), 2736)
+        self.assertEqual(count_good((10, 4, (1, 0, 0, 0, 0, 0, 0, 0, 0, 0, 0)), (0, 0), 10 ** 7), 4095)
+
+    def test_each_plan_of_larger_roads(self):
+        for road, starts in some_trips(60):
+            finishes = [finish_of(road, starts, plan) for plan in each_plan(road, len(starts))]
+            ends = sorted(set(finishes))
+            for end in {*ends[:2], *ends[-2:], *ends[::max(1, len(ends) // 6)], ends[0] - 1, ends[-1] + 1, 0, LIMIT}:
+                expected = len([finish for finish in finishes if finish <= end])
+                self.assertEqual(count_good(road, starts, end), expected, (road, starts, end))
+
+    def test_the_order_of_the_people_does_not_matter(self):
+        for end in range(8, 33):
+            counts = {count_good(C, starts, end) for starts in permutations((0, 4, 9))}
+            self.assertEqual(len(counts), 1, end)
 
     def test_too_large(self):
         self.assertEqual(SMALL_PLANS, 5000)
